@@ -1,0 +1,1 @@
+"""Who lands next: an airport's plan of the order in which aircraft land."""
