@@ -49,8 +49,8 @@ class Plan(unittest.TestCase):
         self.assertEqual(last_of(begins(2), room(0, 1, 9), comes(0, 0, 50), comes(1, 0, 50), comes(1, 0, 50), PLAN),
                          planned((1, 0), (2, 1), (0, 2)))
 
-        # 0 can be first alone, and 3 ends late but behind it at once: of the
-        # two orders that are left, 1 is ahead of 2.
+        # 0 can only be first, and 3 ends late unless it is ahead of 1 and 2: of
+        # the two orders that are left it is the one with 1 ahead of 2.
         self.assertEqual(last_of(begins(3), room(1, 2, 9), comes(0, 0, 0), comes(1, 0, 90), comes(1, 0, 90),
                                  comes(2, 0, 90), PLAN), planned((0, 0), (3, 1), (1, 2), (2, 3)))
 
