@@ -3,7 +3,7 @@
 from whirlingair.tower import Tower
 
 # How many numbers each call has behind its own.
-GIVEN = (1, 3, 3, 1, 0, 0)
+GIVEN = (1, 3, 3, 1, 0, 0, 0, 2, 1, 0, 0)
 
 
 def answer(tower, call, given):
@@ -17,7 +17,17 @@ def answer(tower, call, given):
         return tower.goes(given[0])
     if call == 4:
         return tower.lands()
-    return tower.plan()
+    if call == 5:
+        return tower.plan()
+    if call == 6:
+        return tower.came()
+    if call == 7:
+        return tower.may(given[0], given[1])
+    if call == 8:
+        return tower.why(given[0])
+    if call == 9:
+        return tower.many()
+    return tower.state()
 
 
 def answers(calls):

@@ -34,6 +34,9 @@ class Order:
     def numbers(self):
         return [craft.number for craft, time in self.landings]
 
+    def time_of(self, craft):
+        return self.landings[self.numbers().index(craft.number)][1]
+
 
 def soonest_behind(soonest, craft, time, rooms):
     wanted = rooms[craft.kind]
@@ -95,3 +98,14 @@ def drawbacks(order):
 def best_order(waiting, landed, rooms, shift):
     orders = allowed_orders(waiting, landed, rooms, shift)
     return min(orders, key=drawbacks, default=None)
+
+
+# None where it lands at its first time. Landings behind its own needn't be left
+# out: they are later than its time even without the room.
+def waits_for(craft, time, landings, rooms):
+    if time == craft.first:
+        return None
+    for other, other_time in landings:
+        if other_time + rooms[other.kind][craft.kind] == time:
+            return other
+    return None

@@ -1,7 +1,7 @@
 """The tower of one airport: what it keeps, and what it answers to each call."""
 
 from whirlingair.aircraft import CLASSES, Aircraft
-from whirlingair.orders import best_order
+from whirlingair.orders import allowed_orders, best_order, waits_for
 
 MOST_SHIFT = 3
 MOST_ROOM = 9
@@ -23,6 +23,23 @@ def refusal(reason):
 
 def is_class(kind):
     return kind < CLASSES
+
+
+def listed(numbers):
+    return [len(numbers)] + numbers
+
+
+def landing_numbers(landings):
+    numbers = []
+    for craft, time in landings:
+        numbers.extend([craft.number, time])
+    return numbers
+
+
+def told_order(order):
+    if order is None:
+        return refusal(NO_PLAN)
+    return [order.end_time()] + listed(landing_numbers(order.landings))
 
 
 class Tower:
@@ -62,39 +79,77 @@ class Tower:
         self.come_count = number + 1
         return [number]
 
-    def waits(self, number):
-        return any([craft.number == number for craft in self.waiting])
+    # None where none of that number waits.
+    def find_waiting(self, number):
+        for craft in self.waiting:
+            if craft.number == number:
+                return craft
+        return None
+
+    def why_not_waiting(self, number):
+        if number >= self.come_count:
+            return refusal(NOT_COME)
+        return refusal(WRONG_MOMENT)
 
     def wait_no_more(self, number):
         self.waiting = [craft for craft in self.waiting if craft.number != number]
 
     def goes(self, number):
-        if number >= self.come_count:
-            return refusal(NOT_COME)
-        if not self.waits(number):
-            return refusal(WRONG_MOMENT)
+        if self.find_waiting(number) is None:
+            return self.why_not_waiting(number)
         self.wait_no_more(number)
         return [len(self.waiting)]
 
-    def best(self):
-        return best_order(self.waiting, self.landed, self.rooms, self.shift)
+    def best(self, shift):
+        return best_order(self.waiting, self.landed, self.rooms, shift)
+
+    def allowed(self):
+        return allowed_orders(self.waiting, self.landed, self.rooms, self.shift)
 
     def lands(self):
         if len(self.waiting) == 0:
             return refusal(WRONG_MOMENT)
-        best = self.best()
+        best = self.best(self.shift)
         if best is None:
             return refusal(NO_PLAN)
         landing = best.landings[0]
         self.landed.append(landing)
         self.wait_no_more(landing[0].number)
-        return [landing[0].number, 1, landing[1]]
+        return [landing[0].number] + listed([landing[1]])
 
     def plan(self):
-        best = self.best()
+        return told_order(self.best(self.shift))
+
+    # Where nobody is shifted, an order is the one in which they came.
+    def came(self):
+        return told_order(self.best(0))
+
+    def may(self, number, time):
+        craft = self.find_waiting(number)
+        if craft is None:
+            return self.why_not_waiting(number)
+        soon = any([order.time_of(craft) <= time for order in self.allowed()])
+        return [1 if soon else 0]
+
+    def why(self, number):
+        craft = self.find_waiting(number)
+        if craft is None:
+            return self.why_not_waiting(number)
+        best = self.best(self.shift)
         if best is None:
             return refusal(NO_PLAN)
-        rows = []
-        for craft, time in best.landings:
-            rows.extend([craft.number, time])
-        return [best.end_time(), len(rows)] + rows
+        time = best.time_of(craft)
+        ahead = waits_for(craft, time, self.landed + best.landings, self.rooms)
+        return [time] + listed([] if ahead is None else [ahead.number])
+
+    def many(self):
+        return [len(self.allowed())]
+
+    def state(self):
+        settings = [self.shift]
+        for wanted in self.rooms:
+            settings.extend(wanted)
+        waiting = []
+        for craft in self.waiting:
+            waiting.extend([craft.number, craft.kind, craft.first, craft.last])
+        return [self.come_count] + listed(settings) + listed(landing_numbers(self.landed)) + listed(waiting)
